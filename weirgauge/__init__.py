@@ -1,0 +1,1 @@
+"""Weirgauge: counts of what comes late, in windows of its own time."""
