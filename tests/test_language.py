@@ -75,11 +75,19 @@ def name_faults(tree):
     return faults
 
 
+def methods_of_the_package():
+    """A class's methods may be called from every file that draws the class in."""
+    return {method.name
+            for path in PACKAGE.glob("*.py")
+            for node in ast.walk(ast.parse(path.read_bytes())) if isinstance(node, ast.ClassDef)
+            for method in node.body if isinstance(method, ast.FunctionDef)}
+
+
 def method_faults(tree):
-    own = bound_names(tree)
+    known = methods_of_the_package() | OWN_METHODS
     return [(node.lineno, "method", node.func.attr) for node in ast.walk(tree)
             if isinstance(node, ast.Call) and isinstance(node.func, ast.Attribute)
-            and node.func.attr not in own | OWN_METHODS | {"__init__"}]
+            and node.func.attr not in known]
 
 
 def form_faults(tree):
@@ -120,7 +128,7 @@ def all_faults(source):
 class PackageFiles(unittest.TestCase):
     def test_the_folder_holds_plain_files_alone(self):
         found = sorted(path.name for path in PACKAGE.iterdir() if path.name != "__pycache__")
-        for name in ("__init__.py", "errors.py", "plans.py", "rows.py"):
+        for name in ("__init__.py", "desk.py", "errors.py", "lines.py", "plans.py", "rows.py", "story.py"):
             self.assertIn(name, found)
         for name in found:
             self.assertRegex(name, r"\A([a-z][a-z0-9_]*|__init__|__main__)\.py\Z")
@@ -129,6 +137,28 @@ class PackageFiles(unittest.TestCase):
         for path in sorted(PACKAGE.glob("*.py")):
             with self.subTest(file=path.name):
                 self.assertEqual(all_faults(path.read_bytes().decode("utf-8")), [])
+
+    def test_no_two_files_draw_from_one_another(self):
+        drawn = {}
+        for path in PACKAGE.glob("*.py"):
+            tree = ast.parse(path.read_bytes())
+            drawn[path.stem] = {node.module.split(".")[1] for node in ast.walk(tree)
+                                if isinstance(node, ast.ImportFrom)}
+        while drawn:
+            last = [stem for stem in drawn if not drawn[stem] & set(drawn)]
+            self.assertNotEqual(last, [], "these draw from one another: " + str(sorted(drawn)))
+            for stem in last:
+                del drawn[stem]
+
+    def test_each_drawn_name_is_defined_in_the_very_file(self):
+        for path in sorted(PACKAGE.glob("*.py")):
+            for node in ast.walk(ast.parse(path.read_bytes())):
+                if isinstance(node, ast.ImportFrom):
+                    source = ast.parse((PACKAGE / (node.module.split(".")[1] + ".py")).read_bytes())
+                    at_the_top = [row for row in source.body if not isinstance(row, ast.ImportFrom)]
+                    for alias in node.names:
+                        with self.subTest(file=path.name, name=alias.name):
+                            self.assertIn(alias.name, bound_names(ast.Module(at_the_top, [])))
 
     def test_what_lies_outside_is_seen(self):
         for source in ("import time\n", "from random import random\n", "from os import path\n",

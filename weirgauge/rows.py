@@ -1,7 +1,10 @@
-"""Where the parts of a plan's tuple stand, for all modules that read plans."""
+"""How plans and deeds are put into tuples, for all modules that read them."""
 
 SLIDING = "sliding"
 PAUSES = "pauses"
+
+EVENT = "event"
+MARK = "mark"
 
 
 def kind_of(plan):
